@@ -268,7 +268,8 @@ func TestP12LengthsMakeACode(t *testing.T) {
 	checkLens(t, repeated(impl.CountMax, impl.SymMax), impl.LenMax)
 }
 
-func TestP12LengthsThatWouldBeTooLong(t *testing.T) {
+// steepCounts are counts whose lengths would be longer than LenMax.
+func steepCounts() [][]int {
 	steps := []int{1, 1}
 	for steps[len(steps)-1]+steps[len(steps)-2] <= impl.CountMax {
 		steps = append(steps, steps[len(steps)-1]+steps[len(steps)-2])
@@ -277,7 +278,11 @@ func TestP12LengthsThatWouldBeTooLong(t *testing.T) {
 	for n := 1; n <= impl.CountMax; n *= 2 {
 		twos = append(twos, n)
 	}
-	for _, counts := range [][]int{steps, twos} {
+	return [][]int{steps, twos}
+}
+
+func TestP12LengthsThatWouldBeTooLong(t *testing.T) {
+	for _, counts := range steepCounts() {
 		for most := 6; most <= impl.LenMax; most++ {
 			checkLens(t, counts, most)
 			back := slices.Clone(counts)
@@ -606,8 +611,11 @@ func TestP81TooMuchMakesNoCode(t *testing.T) {
 
 func TestP82NoOtherLengthsAreBetter(t *testing.T) {
 	r := seeded(82)
+	all := steepCounts()
 	for range 200 {
-		counts := randomCounts(r, 2+r.Intn(impl.SymMax-1), []int{1, 9, 1000, impl.CountMax}[r.Intn(4)])
+		all = append(all, randomCounts(r, 2+r.Intn(impl.SymMax-1), []int{1, 9, 1000, impl.CountMax}[r.Intn(4)]))
+	}
+	for _, counts := range all {
 		one := 1
 		for 1<<one < usedOf(counts) {
 			one++
