@@ -59,14 +59,42 @@ func lookAtFile(t *testing.T, fset *token.FileSet, name string, file *ast.File) 
 		switch x := d.(type) {
 		case *ast.GenDecl:
 			for _, s := range x.Specs {
-				if v, ok := s.(*ast.ValueSpec); ok && x.Tok == token.VAR && len(v.Values) == 0 {
-					t.Errorf("%s: %s has no value of its own", name, v.Names[0].Name)
+				if v, ok := s.(*ast.ValueSpec); ok && x.Tok == token.VAR {
+					lookAtVariable(t, name, v)
 				}
 			}
 		case *ast.FuncDecl:
 			if lines := fset.Position(x.End()).Line - fset.Position(x.Pos()).Line + 1; lines > 60 {
 				t.Errorf("%s: %s has %d lines", name, x.Name.Name, lines)
 			}
+			if x.Name.IsExported() {
+				lookForTypes(t, name, x)
+			}
 		}
 	}
+}
+
+// lookAtVariable asks for a value that is written out, of no map and no function.
+func lookAtVariable(t *testing.T, name string, v *ast.ValueSpec) {
+	if len(v.Values) == 0 {
+		t.Errorf("%s: %s has no value of its own", name, v.Names[0].Name)
+	}
+	ast.Inspect(v, func(n ast.Node) bool {
+		switch n.(type) {
+		case *ast.MapType, *ast.FuncLit, *ast.FuncType:
+			t.Errorf("%s: %s is of a map or a function", name, v.Names[0].Name)
+		}
+		return true
+	})
+}
+
+// lookForTypes asks that a function that the document lists leaves it to others what type a value has.
+func lookForTypes(t *testing.T, name string, f *ast.FuncDecl) {
+	ast.Inspect(f, func(n ast.Node) bool {
+		switch n.(type) {
+		case *ast.TypeSwitchStmt, *ast.TypeAssertExpr:
+			t.Errorf("%s: %s asks for a type", name, f.Name.Name)
+		}
+		return true
+	})
 }

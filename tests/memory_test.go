@@ -38,6 +38,26 @@ func TestArgumentsStayAsTheyAre(t *testing.T) {
 	}
 }
 
+// Tokens that are handed in stay as they are, also those behind a fault, and those of an answer are its own.
+func TestTokensStayAsTheyAre(t *testing.T) {
+	mark := impl.Token{Byte: -7, Long: -7, Back: -7}
+	for _, list := range [][]impl.Token{impl.TokensOf("stone stone stone"), {{Byte: 'a'}, {Long: 60, Back: 1}}, {{Byte: 'a'}, {Long: 3, Back: 2}, {Byte: 'b'}}, {{Byte: 256}}} {
+		tokens, stay := guarded(t, list, mark)
+		impl.TokensText(tokens)
+		impl.TokensOk(tokens)
+		impl.TokensLong(tokens)
+		stay("TokensText, TokensOk or TokensLong")
+	}
+	want := tokensSlowly("stone stone stone")
+	for range 3 {
+		list := impl.TokensOf("stone stone stone")
+		if !same(list, want) {
+			t.Fatalf("%v, not %v", list, want)
+		}
+		scribble(list, mark)
+	}
+}
+
 // An answer is the same in each call, whatever was done to the one ahead.
 func TestNothingIsKept(t *testing.T) {
 	counts := []int{5, 9, 12, 13, 16, 45}
