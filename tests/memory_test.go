@@ -2,6 +2,7 @@ package tests
 
 import (
 	"testing"
+	"unsafe"
 
 	"loop.example/corbel/impl"
 )
@@ -71,5 +72,73 @@ func TestNothingIsKept(t *testing.T) {
 		if !same(first, want) || !same(impl.CodesOf(want), codes) {
 			t.Fatalf("%v, not %v", first, want)
 		}
+	}
+}
+
+// apartFrom asks that a text shares no memory with another one.
+func apartFrom(t *testing.T, answer string, argument string, name string) {
+	t.Helper()
+	if answer == "" || argument == "" {
+		return
+	}
+	a, b := uintptr(unsafe.Pointer(unsafe.StringData(answer))), uintptr(unsafe.Pointer(unsafe.StringData(argument)))
+	if a < b+uintptr(len(argument)) && b < a+uintptr(len(answer)) {
+		t.Errorf("%s answers memory of its argument", name)
+	}
+}
+
+// Files that are handed in stay as they are, also those that make no archive.
+func TestFilesStayAsTheyAre(t *testing.T) {
+	mark := impl.Entry{Name: "mark", Text: "mark"}
+	for _, list := range [][]impl.Entry{nil, filesOf("a", "dir/b", "c"), filesOf("a", "a/b"), filesOf("a", "A"), filesOf("a", "b", "c", "d", "e", "f", "g")} {
+		files, stay := guarded(t, list, mark)
+		impl.ZipOk(files)
+		impl.ZipPut(files)
+		stay("ZipOk or ZipPut")
+	}
+}
+
+// Files and names that are read are the reader's own: what is done to them is in no other answer.
+func TestFilesThatAreReadAreNew(t *testing.T) {
+	want := filesOf("a", "dir/b", "c")
+	want[0].Text = "x"
+	local, archive := impl.LocalPut(want[0]), impl.ZipPut(want)
+	for range 3 {
+		e, _, _ := impl.LocalGet(local)
+		apartFrom(t, e.Name, local, "LocalGet")
+		apartFrom(t, e.Text, local, "LocalGet")
+		list, _ := impl.ZipGet(archive)
+		names := impl.ZipNames(archive)
+		if !same(list, want) || !same(names, namesOf(want)) {
+			t.Fatalf("%v %v", list, names)
+		}
+		for i, e := range list {
+			said, _ := impl.ZipFind(archive, e.Name)
+			apartFrom(t, said, archive, "ZipFind")
+			apartFrom(t, e.Name, archive, "ZipGet")
+			apartFrom(t, e.Text, archive, "ZipGet")
+			apartFrom(t, names[i], archive, "ZipNames")
+		}
+		scribble(list, impl.Entry{})
+		scribble(names, "")
+	}
+}
+
+// What stays as it is is new all the same.
+func TestArchivesThatStayAreNew(t *testing.T) {
+	archive := impl.ZipPut(filesOf("a", "b"))
+	for _, got := range []editAnswer{
+		answered(impl.ZipAdd(archive, fileOf("a", ""))),
+		answered(impl.ZipDrop(archive, "z")),
+		answered(impl.ZipSwap(archive, fileOf("z", ""))),
+		answered(impl.ZipMove(archive, "a", "b")),
+		answered(impl.ZipMove(archive, "a", "a")),
+		answered(impl.ZipJoin(archive, archive)),
+		answered(impl.ZipJoin(archive, impl.ZipPut(nil))),
+	} {
+		if got.text != archive {
+			t.Errorf("%d %q", got.code, got.text)
+		}
+		apartFrom(t, got.text, archive, "a deed")
 	}
 }
