@@ -142,3 +142,47 @@ func TestArchivesThatStayAreNew(t *testing.T) {
 		apartFrom(t, got.text, archive, "a deed")
 	}
 }
+
+// Disks and trees that are handed in stay as they are, and what is answered is new, also what is as it was.
+func TestDisksAndTreesAreNew(t *testing.T) {
+	archive, other := impl.ZipPut(filesOf("a", "b")), impl.ZipPut(filesOf("c"))
+	torn := impl.DiskTear(impl.Disk{Text: archive}, other, 1000)
+	apartFrom(t, torn.Text, archive, "DiskTear")
+	apartFrom(t, torn.Log, other, "DiskTear")
+	up, _ := impl.DiskRise(torn)
+	apartFrom(t, up.Text, torn.Log, "DiskRise")
+	up, _ = impl.DiskRise(impl.Disk{Text: archive})
+	apartFrom(t, up.Text, archive, "DiskRise")
+
+	mark := impl.File{Path: "mark", Text: "mark"}
+	for _, list := range [][]impl.File{nil, treeOf("b", "d"), treeOf("a", "dir/b"), fullTree(), treeOf("b", "a"), treeOf("a", "a/b")} {
+		for _, text := range []string{impl.ZipPut(nil), other, archive, impl.ZipPut(filesOf("dir", "a")), impl.ZipPut(filesOf("a/b")), "x"} {
+			tree, stay := guarded(t, list, mark)
+			impl.TreeOk(tree)
+			impl.TreeZip(tree, "dir", noon)
+			taken, _ := impl.TreeTake(tree, text)
+			for _, f := range taken {
+				for _, g := range tree {
+					apartFrom(t, f.Path, g.Path, "TreeTake")
+					apartFrom(t, f.Text, g.Text, "TreeTake")
+				}
+				apartFrom(t, f.Path, text, "TreeTake")
+				apartFrom(t, f.Text, text, "TreeTake")
+			}
+			scribble(taken, impl.File{Path: "over", Text: "over"})
+			stay("TreeOk, TreeZip or TreeTake")
+		}
+	}
+}
+
+// Lines that are handed in stay as they are, also those that are not done.
+func TestLinesStayAsTheyAre(t *testing.T) {
+	for _, many := range []int{0, 5, 30, 35} {
+		lines, stay := guarded(t, randomLines(seeded(103), many), "mark")
+		told := impl.Session(lines)
+		for _, line := range lines {
+			apartFrom(t, told, line, "Session")
+		}
+		stay("Session")
+	}
+}
